@@ -201,7 +201,7 @@ func TestTheAnnouncement(t *testing.T) {
 	}
 }
 
-// P1.11: a town that is 0 minutes ahead shows what the calendar says; as long as nothing changes readings increase, but for the second that is put in.
+// P1.11: a town that is 0 minutes ahead shows what the calendar says; as long as nothing changes readings increase, and none comes twice.
 func TestTheTown(t *testing.T) {
 	for i, c := range calendars() {
 		list := all(t, c)
