@@ -126,7 +126,7 @@ func TestManyCases(t *testing.T) {
 	r := rand.New(rand.NewSource(112))
 	var false0, many int
 	verdicts := [3][3]int{}
-	for i, x := range drawn(250) {
+	for i, x := range drawn(150) {
 		h := hallOf(x.c)
 		m := marked(h)
 		checkCase(t, i, m)
@@ -147,7 +147,7 @@ func TestManyCases(t *testing.T) {
 			verdicts[claim.Kind][want]++
 		}
 	}
-	if false0 < 20 || many < 500 || slices.Min(slices.Concat(verdicts[0][:], verdicts[1][:], verdicts[2][:])) < 30 {
+	if false0 < 15 || many < 400 || slices.Min(slices.Concat(verdicts[0][:], verdicts[1][:], verdicts[2][:])) < 20 {
 		t.Errorf("%d cases cannot be true, %d readings are shown at several ticks, and the verdicts are %v: too few to tell something", false0, many, verdicts)
 	}
 }
@@ -401,7 +401,7 @@ func isPart[T comparable](list, of []T) bool {
 func TestOneEntryMore(t *testing.T) {
 	r := rand.New(rand.NewSource(118))
 	less, proved := 0, 0
-	for i, x := range drawn(300) {
+	for i, x := range drawn(150) {
 		if len(x.c.Log) == 0 || len(wrong(t, x.c)) > 0 {
 			continue
 		}
@@ -423,7 +423,7 @@ func TestOneEntryMore(t *testing.T) {
 			}
 		}
 	}
-	if less < 200 || proved < 100 {
+	if less < 200 || proved < 60 {
 		t.Errorf("%d stages have fewer errors, and %d verdicts are others: too few to tell something", less, proved)
 	}
 }
@@ -525,7 +525,7 @@ func weaker(r *rand.Rand, c api.CourtClaim, last int) []api.CourtClaim {
 func TestWeakerClaims(t *testing.T) {
 	r := rand.New(rand.NewSource(121))
 	var more, proved [3]int
-	for i, x := range drawn(300) {
+	for i, x := range drawn(150) {
 		if len(wrong(t, x.c)) > 0 {
 			continue
 		}
@@ -542,7 +542,7 @@ func TestWeakerClaims(t *testing.T) {
 			}
 		}
 	}
-	if slices.Min(more[:]) < 100 || slices.Min(proved[:]) < 60 {
+	if slices.Min(more[:]) < 60 || slices.Min(proved[:]) < 30 {
 		t.Errorf("%v claims are proved, and %v weaker ones are truer: too few to tell something", proved, more)
 	}
 }
